@@ -1,0 +1,1 @@
+"""A subject and its answers: fugueanswers.fugue.answers is the way in."""
