@@ -9,6 +9,12 @@ ANSWER_CALL = 4
 LINE_CALL = 5
 SWAP_CALL = 6
 SWAPS_CALL = 7
+ENTER_CALL = 8
+BEST_CALL = 9
+DROP_CALL = 10
+COST_CALL = 11
+BAD_CALL = 12
+ENTRIES_CALL = 13
 
 
 def read_calls(calls):
@@ -40,6 +46,18 @@ def answer_call(piece, call, numbers):
         return piece.tell_swap(numbers[0])
     if call == SWAPS_CALL:
         return piece.tell_swaps()
+    if call == ENTER_CALL:
+        return piece.take_entry(numbers[0], numbers[1], numbers[2], numbers[3])
+    if call == BEST_CALL:
+        return piece.tell_best(numbers[0], numbers[1], numbers[2])
+    if call == DROP_CALL:
+        return piece.drop_entry()
+    if call == COST_CALL:
+        return piece.tell_cost()
+    if call == BAD_CALL:
+        return piece.tell_bad(numbers[0], numbers[1])
+    if call == ENTRIES_CALL:
+        return piece.tell_entries()
     raise NotImplementedError(f"there is no call {call}")
 
 

@@ -57,6 +57,30 @@ def swaps():
     return call(7, [])
 
 
+def enter(kind, time, octaves, voice):
+    return call(8, [kind, time, octaves, voice])
+
+
+def best(kind, time, voice):
+    return call(9, [kind, time, voice])
+
+
+def drop():
+    return call(10, [])
+
+
+def cost():
+    return call(11, [])
+
+
+def bad(i, j):
+    return call(12, [i, j])
+
+
+def entries():
+    return call(13, [])
+
+
 def split(told):
     """The answers of the calls, one list each."""
     found = []

@@ -1,16 +1,20 @@
 import unittest
 
-from calling import answer, counter, joined, line, note, notes, prices, rest, subject, swap, swaps
+from calling import (answer, bad, best, cost, counter, drop, enter, entries, joined, line, note, notes, prices, rest,
+                     subject, swap, swaps)
 from fugueanswers.fugue import answers
 
 CHEAP = [0] * 15 + [512]
 EVERY_CALL = joined([
     subject(28, notes([28, 32]) + rest(5)), counter(note(33, 20)), prices(CHEAP), answer(), line(3), swap(4), swaps(),
+    enter(0, 0, 0, 0), enter(2, 8, -1, 1), best(1, 16, 2), enter(1, 16, 0, 2), cost(), bad(0, 1), drop(), entries(),
 ])
 EVERY_REFUSAL = joined([
     answer(), line(0), swap(1), swaps(), counter(notes([28])), subject(70, notes([28])), subject(28, []),
-    subject(28, [1, 28]), prices([101] + [0] * 14 + [1]), line(4), swap(0),
+    subject(28, [1, 28]), prices([101] + [0] * 14 + [1]), line(4), swap(0), enter(0, 0, 0, 0), enter(4, 0, 0, 0),
+    best(0, 0, 0), best(0, 0, 4), drop(), bad(0, 1),
 ])
+REFUSALS = (-7, -7, -7, -7, -7, -1, -5, -2, -1, -1, -1, -7, -1, -7, -1, -3, -1)
 
 
 def refuse(*arguments):
@@ -32,9 +36,15 @@ class InterfaceTest(unittest.TestCase):
         self.assertEqual(told[16], 45)
         self.assertEqual(told[17 + 45:], [1, -1])
 
+    def test_counts_stand_ahead_of_what_is_told_of_entries(self):
+        calls = [1, 4, 28, 1, 28, 16, 0, 8, 4, 0, 0, -1, 3, 0, 8, 4, 1, 0, 0, 0, 0, 9, 3, 0, 8, 1, 0, 11, 0, 0,
+                 12, 2, 1, 0, 0, 3, 16] + [1] * 16 + [0, 12, 2, 1, 0, 0, 13, 0, 0, 10, 0, 0]
+        # The answer's 32 is 11 above the entry's 21; what is left is 4, which costs nothing at first.
+        self.assertEqual(answers(calls), [3, 1, 16, 1, 2, 1, 0, 2, 2, 0, 2, 0, 0, 2, 0, 2, 1, 0, 1, 0, 3, 1, 0, 1,
+                                          9, 2, 0, 0, -1, 3, 1, 0, 0, 0, 1, 1])
+
     def test_a_refusal_stands_alone(self):
-        self.assertEqual(answers(EVERY_REFUSAL),
-                         joined([[1, refusal] for refusal in (-7, -7, -7, -7, -7, -1, -5, -2, -1, -1, -1)]))
+        self.assertEqual(answers(EVERY_REFUSAL), joined([[1, refusal] for refusal in REFUSALS]))
 
     def test_gives_back_a_list_of_whole_numbers(self):
         told = answers(EVERY_CALL)
@@ -49,8 +59,8 @@ class InterfaceTest(unittest.TestCase):
         self.assertEqual(told[8:12], [45, 160, 160, 16])
 
     def test_each_list_of_calls_begins_anew(self):
-        questions = joined([answer(), line(0), swap(1)])
-        expected = [1, -7, 1, -7, 1, -7]
+        questions = joined([answer(), line(0), swap(1), entries(), cost(), drop()])
+        expected = [1, -7, 1, -7, 1, -7, 1, 0, 2, 0, 0, 1, -3]
         self.assertEqual(answers(questions), expected)
         answers(EVERY_CALL)
         self.assertEqual(answers(questions), expected)

@@ -3,14 +3,12 @@ import unittest
 from calling import notes
 from fugueanswers.piece import Piece
 
-ENTRY = (0, 16, -1, 2)
-
 
 class PieceTest(unittest.TestCase):
     def piece_with_an_entry(self):
         piece = Piece()
         piece.take_subject(28, notes([28]))
-        piece.entries.append(ENTRY)
+        piece.take_entry(0, 16, -1, 2)
         return piece
 
     def test_at_first(self):
@@ -34,14 +32,14 @@ class PieceTest(unittest.TestCase):
         for told in (piece.take_subject(70, notes([30])), piece.take_subject(30, [1]), piece.take_subject(30, []),
                      piece.take_counter([1]), piece.take_counter([])):
             self.assertLess(told[0], 0)
-        self.assertEqual(piece.entries, [ENTRY])
+        self.assertEqual(piece.tell_entries(), [1, 0, 16, -1, 2])
 
     def test_other_calls_leave_the_entries(self):
         piece = self.piece_with_an_entry()
         piece.take_prices([1] * 16)
         piece.tell_answer()
         piece.tell_line(0)
-        self.assertEqual(piece.entries, [ENTRY])
+        self.assertEqual(piece.tell_entries(), [1, 0, 16, -1, 2])
 
 
 if __name__ == "__main__":
