@@ -36,6 +36,7 @@ METHODS_OF_PYTHON = set("""
     split splitlines startswith strip update upper values zfill bit_length
 """.split())
 
+CHANGES = ("append", "clear", "extend", "insert", "pop", "remove", "reverse", "setdefault", "update")
 WALKED_AT_ONCE = ("zip", "enumerate", "reversed", "range")
 WALKERS = ("list", "tuple", "dict", "sorted", "sum", "any", "all", "enumerate", "zip", "min", "max")
 
@@ -246,6 +247,56 @@ class LanguageTest(unittest.TestCase):
                 if isinstance(node, ast.ListComp):
                     self.assertEqual(len(node.generators), 1, (name, node.lineno))
                     self.assertLessEqual(len(node.generators[0].ifs), 1, (name, node.lineno))
+
+    def test_classes_are_plain_and_only_called(self):
+        every_class = [node.name for name, text in package_files() for node in nodes_of(text)
+                       if isinstance(node, ast.ClassDef)]
+        for name, text in package_files():
+            for node, parent in children_by_parent(text):
+                if isinstance(node, ast.ClassDef):
+                    self.assertIsInstance(parent, ast.Module, node.name)
+                    self.assertEqual([node.bases, node.keywords, node.decorator_list], [[], [], []], node.name)
+                    self.assertEqual([part for part in node.body[1:] if not isinstance(part, ast.FunctionDef)], [])
+                if isinstance(node, ast.Name) and node.id in every_class:
+                    self.assertEqual(node, getattr(parent, "func", None), (name, node.lineno))
+
+    def test_init_is_the_one_method_with_two_underscores_and_gives_back_nothing(self):
+        for name, text in package_files():
+            for node in nodes_of(text):
+                if isinstance(node, ast.FunctionDef) and node.name.startswith("_"):
+                    self.assertEqual(node.name, "__init__", name)
+                    self.assertEqual([part for part in ast.walk(node) if isinstance(part, ast.Return)], [], name)
+
+    def test_no_error_is_taken_and_each_is_made_on_the_spot(self):
+        for name, text in package_files():
+            for node in nodes_of(text):
+                self.assertNotIsInstance(node, ast.Try, name)
+                if isinstance(node, ast.Raise):
+                    self.assertIsNotNone(called_name(node.exc), (name, node.lineno))
+
+    def test_what_a_loop_walks_is_not_changed_in_it(self):
+        for name, text in package_files():
+            for loop in [node for node in nodes_of(text) if isinstance(node, ast.For)]:
+                walked = [ast.unparse(node) for node in ast.walk(loop.iter)
+                          if isinstance(node, (ast.Name, ast.Attribute))]
+                for node in [inner for part in loop.body for inner in ast.walk(part)]:
+                    if isinstance(node, ast.Call) and isinstance(node.func, ast.Attribute):
+                        if node.func.attr in CHANGES:
+                            self.assertNotIn(ast.unparse(node.func.value), walked, (name, node.lineno))
+                    if isinstance(node, ast.Subscript) and isinstance(node.ctx, ast.Store):
+                        self.assertNotIn(ast.unparse(node.value), walked, (name, node.lineno))
+
+    def test_calls_by_themselves_keywords_and_powers(self):
+        for name, text in package_files():
+            for node in nodes_of(text):
+                if isinstance(node, ast.Expr):
+                    self.assertIsInstance(node.value, (ast.Call, ast.Constant), (name, node.lineno))
+                if isinstance(node, ast.keyword):
+                    self.assertIn(node.arg, ("key", "reverse", "default", "start", "strict"), name)
+                if isinstance(node, ast.FormattedValue):
+                    self.assertIsInstance(node.value, ast.Name, (name, node.lineno))
+                    self.assertIsNone(node.format_spec, (name, node.lineno))
+                self.assertNotIsInstance(node, (ast.Pow, ast.Lambda), name)
 
     def test_texts(self):
         for name, text in package_files():
